@@ -1,0 +1,1 @@
+"""Oneowner: values with one owner, lent, moved and freed, and a machine that shows it."""
