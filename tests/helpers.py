@@ -1,7 +1,8 @@
 """What several tests need."""
 
-from oneowner.errors import TextError
+from oneowner.errors import ProgramError, TextError
 from oneowner.parser import parse
+from oneowner.typed import typed
 
 SIGNS = ("{", "}", "(", ")", "[", "]", ",", ";", ":", ".", "=", "+", "-", "*", "<", "!", "==", "->")
 
@@ -58,3 +59,37 @@ def marked(text):
     """A text without its mark @, and the place where the mark stood."""
     ahead, behind = text.split("@")
     return ahead + behind, end_of(ahead)
+
+
+# Declarations that tests of typing and lowering stand on; the function under test is the fifth one.
+DECLARED = """record pair { one: int, two: bool }
+record held { item: box int, rows: vec pair, tail: list }
+variant list { none, some(int, box list), both(bool, pair) }
+variant way { up, down }
+fn plain() -> int { return 0; }
+fn taken(a: int, b: pair, c: ref pair, d: mut vec int) -> pair { return b; }
+fn lent(a: int, b: ref pair, c: ref int) -> ref int from b, c { return c; }
+fn main() -> int { return 0; }
+"""
+INT, BOOL = ("int",), ("bool",)
+PAIR, HELD = ("record", 0), ("record", 1)
+LIST, WAY = ("variant", 0), ("variant", 1)
+BOOK = (
+    ((INT, BOOL), (("box", INT), ("vec", PAIR), LIST)),
+    (((), (INT, ("box", LIST)), (BOOL, PAIR)), ((), ())),
+)
+PLAIN, TAKEN, LENT, MAIN, IT = 0, 1, 2, 3, 4
+
+
+def text_of_it(params, body, value="0", result="int"):
+    """A program whose last function has these params, statements and value."""
+    return DECLARED + "fn it(" + params + ") -> " + result + " { " + body + " return " + value + "; }"
+
+
+def program_error_of(text):
+    """The class and the word of the error that typing a text raises, or None."""
+    try:
+        typed(text)
+    except ProgramError as error:
+        return (error.__class__.__name__, error.word)
+    return None

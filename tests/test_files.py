@@ -15,6 +15,9 @@ INTERFACE = {
     ),
     "tokens": ("KEYWORDS", "tokens"),
     "parser": ("parse", "parse_expr"),
+    "printing": ("print_program", "print_expr"),
+    "typed": ("check", "typed"),
+    "lower": ("lower",),
 }
 
 
