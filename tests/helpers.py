@@ -93,3 +93,38 @@ def program_error_of(text):
     except ProgramError as error:
         return (error.__class__.__name__, error.word)
     return None
+
+
+def replaced(thing, others):
+    """What comes of a nested tuple when each part of it, itself among them, becomes each of the others."""
+    for other in others:
+        yield other
+    if isinstance(thing, tuple):
+        for at in range(len(thing)):
+            for within in replaced(thing[at], others):
+                yield thing[:at] + (within,) + thing[at + 1:]
+
+
+def longer(thing, others):
+    """What comes of a nested tuple when each tuple in it gets each of the others behind its end."""
+    if isinstance(thing, tuple):
+        for other in others:
+            yield thing + (other,)
+        for at in range(len(thing)):
+            for within in longer(thing[at], others):
+                yield thing[:at] + (within,) + thing[at + 1:]
+
+
+def deep_kind(word, many, within=INT):
+    """A kind that is by so many deeper than the one within."""
+    for _ in range(many):
+        within = (word, within)
+    return within
+
+
+def deep_thing(many):
+    """A thing of one thing, and so on, that is nested so deep."""
+    thing = ()
+    for _ in range(many):
+        thing = (thing,)
+    return thing

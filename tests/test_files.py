@@ -18,6 +18,12 @@ INTERFACE = {
     "printing": ("print_program", "print_expr"),
     "typed": ("check", "typed"),
     "lower": ("lower",),
+    "kinds": (
+        "is_book", "is_kind", "is_data", "is_copied", "size_of", "field_place", "part_place", "is_value",
+    ),
+    "mir": ("is_mir", "kind_of_place", "kind_of_operand", "regions_of"),
+    "meaning": ("meaning",),
+    "touches": ("touches", "overlap"),
 }
 
 

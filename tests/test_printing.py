@@ -40,7 +40,10 @@ fn main() -> int {
 
 def printed_body(text):
     """The rows of the statements of a function that has this text as its statements."""
-    rows = print_program(parse("fn f() -> int { " + text + " return 0; }")).split("\n")
+    tree = parse("fn f() -> int { " + text + " return 0; }")
+    printed = print_program(tree)
+    assert parse(printed) == tree
+    rows = printed.split("\n")
     assert rows[0] == "fn f() -> int {" and rows[-3:] == ["  return 0;", "}", ""]
     return rows[1:-3]
 
@@ -49,6 +52,7 @@ class DeclarationTest(unittest.TestCase):
 
     def same(self, text):
         self.assertEqual(print_program(parse(text)), text)
+        self.assertEqual(parse(print_program(parse(text))), parse(text))
 
     def test_a_program_of_everything(self):
         self.assertEqual(print_program(parse(EVERYTHING)), PRINTED)

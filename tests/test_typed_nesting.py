@@ -39,7 +39,8 @@ class NestingTest(unittest.TestCase):
             ("if t { ", " }", 3), ("if t { } else { ", " }", 3), ("while t { ", " }", 3), ("par { ", " } { }", 3),
             ("par { } { ", " }", 3), ("match ref u { up { ", " } down { } }", 3),
         ):
-            text = text_of_it("a: int, t: bool, u: way", nested(ahead, "show " + nested("(1 + ", "a", ")") + ";", behind))
+            text = text_of_it("a: int, t: bool, u: way", nested(ahead, "show " + nested("(1 + ", "a", ")") + ";",
+                                                                behind))
             with self.subTest(ahead):
                 tree = parse(text)
                 self.assertEqual(parse(print_program(tree)), tree)
