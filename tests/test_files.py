@@ -24,7 +24,12 @@ INTERFACE = {
     "mir": ("is_mir", "kind_of_place", "kind_of_operand", "regions_of"),
     "meaning": ("meaning",),
     "touches": ("touches", "overlap"),
+    "papers": ("best_paper", "holds"),
+    "judge": ("judge", "taken"),
+    "heap": ("is_allocator", "Heap"),
 }
+# The methods that it lists for a class.
+METHODS = {("heap", "Heap"): ("__init__", "take", "give", "blocks", "pieces", "top", "size")}
 
 
 def texts():
@@ -74,6 +79,14 @@ class FileTest(unittest.TestCase):
                     defined.append(node.targets[0].id)
             for name in names:
                 self.assertIn(name, defined, module)
+
+    def test_the_methods_are_defined_in_their_classes(self):
+        bodies = {name[:-3]: ast.parse(text).body for name, text in texts()}
+        for (module, name), methods in METHODS.items():
+            (found,) = [node for node in bodies[module] if isinstance(node, ast.ClassDef) and node.name == name]
+            defined = [node.name for node in found.body if isinstance(node, ast.FunctionDef)]
+            for method in methods:
+                self.assertIn(method, defined, name)
 
 
 if __name__ == "__main__":
