@@ -2,7 +2,7 @@
 
 
 class OwnerError(ValueError):
-    """The base class of all errors of the program."""
+    """The base class of all errors of the program; called is the name of the class of each below it."""
 
 
 class TextError(OwnerError):
@@ -10,6 +10,7 @@ class TextError(OwnerError):
 
     def __init__(self, row, column):
         OwnerError.__init__(self, f"row {row}, column {column}")
+        self.called = self.__class__.__name__
         self.row = row
         self.column = column
 
@@ -31,6 +32,7 @@ class ProgramError(OwnerError):
 
     def __init__(self, word):
         OwnerError.__init__(self, f"{word}")
+        self.called = self.__class__.__name__
         self.word = word
 
 
@@ -63,6 +65,7 @@ class Refused(OwnerError):
 
     def __init__(self, function, block, index, word):
         OwnerError.__init__(self, f"function {function}, block {block}, index {index}: {word}")
+        self.called = self.__class__.__name__
         self.function = function
         self.block = block
         self.index = index

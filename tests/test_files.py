@@ -27,6 +27,10 @@ INTERFACE = {
     "papers": ("best_paper", "holds"),
     "judge": ("judge", "taken"),
     "heap": ("is_allocator", "Heap"),
+    "memory": ("Wrong",),
+    "machine": ("run_machine",),
+    "threads": ("unordered", "picked"),
+    "run": ("compile_text", "run_text", "explained"),
 }
 # The methods that it lists for a class.
 METHODS = {("heap", "Heap"): ("__init__", "take", "give", "blocks", "pieces", "top", "size")}

@@ -3,6 +3,7 @@
 import unittest
 
 from helpers import BOOL, HELD, INT, LIST, PAIR
+from machine_helpers import compare
 from mir_helpers import (
     DEREF, RETURN, TRUE, ZERO, copied, deep_item, field, function, item, main_of, put, straight, whole,
 )
@@ -35,6 +36,7 @@ class MeaningTest(unittest.TestCase):
             self.assertTrue(is_mir(program))
             result = 0 if word == "done" else None
             self.assertEqual(repr(meaning(program, inputs, 1000)), repr((outs, word, result)))
+            compare(self, program, inputs)
 
     def done(self, kinds, statements, *outs):
         self.run_program(straight((INT, *kinds), *statements, DONE), outs, "done")

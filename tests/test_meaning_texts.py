@@ -2,6 +2,7 @@
 
 import unittest
 
+from machine_helpers import SOME, compare
 from oneowner.lower import lower
 from oneowner.meaning import meaning
 from oneowner.mir import is_mir
@@ -19,12 +20,13 @@ fn build(n: int) -> list {
 
 class TextTest(unittest.TestCase):
 
-    def check(self, text, outs, result=0, inputs=(), word="done", steps=100000):
+    def check(self, text, outs, result=0, inputs=(), word="done", steps=100000, allocators=SOME):
         with self.subTest(text):
             program = lower(typed(text))
             self.assertTrue(is_mir(program))
             result = result if word == "done" else None
             self.assertEqual(repr(meaning(program, inputs, steps)), repr((outs, word, result)))
+            compare(self, program, inputs, steps, allocators)
 
     def main(self, body, *outs, params="", inputs=(), word="done"):
         self.check("record pair { one: int, two: int } " + LIST + "fn tell(x: int) -> int { show x; return x; } "
@@ -142,7 +144,7 @@ class TextTest(unittest.TestCase):
     def test_values_that_are_nested_far_deeper_than_calls(self):
         text = BUILD + "fn main(n: int) -> int { let l: list = build(n); let v: vec list = vec list; push(v, l); " \
                        "v[0] = none; let b: box list = box build(n); let c: list = unbox b; return n; }"
-        self.check(text, (), result=3000, inputs=(3000,))
+        self.check(text, (), result=3000, inputs=(3000,), allocators=SOME[:1])
 
     def test_sorting(self):
         text = """

@@ -3,6 +3,7 @@
 import unittest
 
 from helpers import BOOL, HELD, INT, LIST, PAIR, WAY
+from machine_helpers import compare
 from mir_helpers import (
     DEREF, RETURN, TRUE, ZERO, copied, field, function, item, main_of, put, straight, whole,
 )
@@ -29,6 +30,7 @@ class MeaningTest(unittest.TestCase):
             self.assertTrue(is_mir(program))
             self.assertEqual(repr(meaning(program, inputs, steps)), repr((outs, word,
                                                                           result if word == "done" else None)))
+            compare(self, program, inputs)
 
     def rows(self, kinds, statements, *outs):
         """What statements show that are the whole of main, whose local 0 is an int."""
