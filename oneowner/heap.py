@@ -118,12 +118,11 @@ class Heap:
             self.gaps[at:at + 2] = [(address, size + more)]
 
     def lower_top(self):
-        """A piece that ends at the top is no piece any more."""
-        if self.gaps:
-            address, size = self.gaps[-1]
-            if address + size == self.height:
-                self.height = address
-                del self.gaps[-1]
+        """The last piece, if it ends at the top, is no piece any more."""
+        address, size = self.gaps[-1]
+        if address + size == self.height:
+            self.height = address
+            del self.gaps[-1]
 
     def blocks(self):
         """The pairs (address, size) of the blocks, ascending."""

@@ -171,11 +171,9 @@ class Machine(Work):
         while thread.waiting is not None:
             waiting = thread.waiting
             if thread.is_second_side() and waiting.running == 2:
-                waiting.running = 1
                 waiting.fault = word
                 self.end_within(thread.place)
                 return
-            self.end_within(waiting.place)
             thread = waiting
         self.word = word
 

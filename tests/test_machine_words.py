@@ -194,6 +194,21 @@ class MarkTest(WordTest):
         other = (put(I, ("op", "+", copied(I), ZERO)), put(2, made(NUM, copied(I))))
         self.check("unowned", (), *self.ahead, *other, ("show", ("copy", (MB, (DEREF, DEREF)))), DONE)
 
+    def test_numbers_have_no_holding(self):
+        # The first holding is the block at the address 1; a number 1 is no address of it.
+        ahead = (put(B2, ("box", FIVE, INT)), *NEW_BOX, put(1, made(HELD, ("move", B))), lent(MB, "mut", part(1, HELD)))
+        show_it = ("show", ("copy", (MB, (DEREF, DEREF))))
+        again = ("set", (MB, (DEREF,)), ("box", ONE, INT))
+        for operand in (ONE, ("copy", whole(I))):
+            other = (put(I, ("use", ONE)), put(1, made(NUM, operand)))
+            self.check("unowned", (), *ahead, *other, show_it)
+            self.check("free", (), *ahead, *other, again)
+        for rvalue in (("op", "+", ZERO, ONE), ("op", "*", ONE, ONE), ("len", whole(ROW_LOCAL)),
+                       ("op", "-", ONE, ZERO)):
+            other = (*NEW_VEC, ("push", whole(ROW_LOCAL), ONE), put(I, rvalue), put(1, made(NUM, copied(I))))
+            self.check("unowned", (), *ahead, *other, show_it)
+            self.check("free", (), *ahead, *other, again)
+
     def test_given_back_twice(self):
         again = ("set", (MB, (DEREF,)), ("use", ("move", B2)))
         box = put(B2, ("box", ONE, INT))
@@ -321,6 +336,23 @@ class DropTest(WordTest):
             self.assertEqual(run_machine(straight(kinds, *statements, book=book), (), allocator, (), 100),
                              ((), "done", 0))
 
+    def test_dropping_a_variant_without_blocks_reads_no_tag(self):
+        # The variant is not set when another one comes where it was.
+        book = ((((("variant", 0)), INT),), (((INT,), ()),))
+        kinds = (INT, ("record", 0), ("variant", 0))
+        inner = put(2, ("variant", 0, 0, (FIVE,)))
+        statements = (inner, put(1, ("record", 0, (("move", 2), ONE))), ("drop", 1), inner,
+                      ("set", field(1, 0), ("use", ("move", 2))),
+                      ("show", ("copy", (1, (("field", 0), ("part", 0, 0))))), DONE)
+        for allocator in ALLOCATORS:
+            found = run_machine(straight(kinds, *statements, book=book), (), allocator, (), 100)
+            self.assertEqual(found, ((5,), "done", 0))
+        # With a tag whose part has a block, its tag is read.
+        book = ((((("variant", 0)), INT),), (((INT,), (BOX,)),))
+        for allocator in ALLOCATORS:
+            found = run_machine(straight(kinds, *statements, book=book), (), allocator, (), 100)
+            self.assertEqual(found, ((), "unset", None))
+
     def test_a_set_over_what_is_not_set_of_a_kind_without_blocks(self):
         kinds = (INT, ("record", 0), INT, BOOL)
         book = (((INT, BOOL), (("record", 0), INT)), ())
@@ -387,6 +419,28 @@ class SizeTest(WordTest):
                                ("show", ("copy", item(1, ONE))),
                                book=BOOK)
             self.assertEqual(run_machine(program, (), allocator, (), 100), ((), "bound", None))
+
+    def test_what_lies_behind_a_block(self):
+        # The words of a box and of two numbers are read as those of a vec, whose items lie in the block of the box.
+        book = ((), (((BOX, INT, INT), (VEC,)),))
+        kinds = (INT, ("variant", 0), VEC, ("mut", VEC), BOX)
+        ahead = (put(2, ("vec", INT)), put(1, ("variant", 0, 1, (("move", 2),))),
+                 put(3, ("lend", "mut", (1, (("part", 1, 0),)))),
+                 put(4, ("box", FIVE, INT)), put(1, ("variant", 0, 0, (("move", 4), ("num", 99), ("num", 99)))))
+        for allocator in ALLOCATORS:
+            unit = allocator[1]
+            for at in range(20):
+                show_item = ("show", ("copy", (3, (DEREF, ("index", ("num", at))))))
+                found = run_machine(straight(kinds, *ahead, show_item, ("end", 1), DONE, book=book), (), allocator, (),
+                                    100)
+                # The block has all the words of its size, but only the first one was ever set.
+                word = "unset" if at < unit else "unowned"
+                self.assertEqual(found, ((5,), "done", 0) if at == 0 else ((), word, None))
+                set_item = ("set", (3, (DEREF, ("index", ("num", at)))), ("use", ONE))
+                found = run_machine(straight(kinds, *ahead, set_item, show_item, ("end", 1), DONE, book=book), (),
+                                    allocator,
+                                    (), 100)
+                self.assertEqual(found, ((1,), "done", 0) if at < unit else ((), "unowned", None))
 
     def test_items_without_words(self):
         book = (((), (INT,)), ())
