@@ -1,12 +1,12 @@
 """The machine: threads that do the steps of a program on a memory of cells."""
 
 from oneowner.cells import Fault, word_of
+from oneowner.frames import MOST_FRAMES
 from oneowner.memory import Wrong
 from oneowner.rooms import MachineFrame
 from oneowner.threads import Call, Thread, picked
 from oneowner.work import Work
 
-MOST_FRAMES = 100
 # Stacks begin so far from each other, and from the heap, that they never meet.
 STACK = 1099511627776
 
@@ -148,7 +148,7 @@ class Machine(Work):
         for side, block in ((0, first), (1, second)):
             place = (*thread.place, (self.pars, side))
             sides.append(Thread(place, thread, Call(call.frame, block, None), self.new_stack()))
-        self.replace(thread, sides)
+        self.relieve(thread, sides)
 
     def end_side(self, thread):
         """A side of a par ends with a join; the waiting thread goes on behind the last one."""
@@ -157,11 +157,11 @@ class Machine(Work):
         if waiting.fault is not None:
             self.fail(waiting, waiting.fault)
         elif waiting.running == 0:
-            self.replace(thread, [waiting])
+            self.relieve(thread, [waiting])
         else:
-            self.replace(thread, [])
+            self.relieve(thread, [])
 
-    def replace(self, thread, others):
+    def relieve(self, thread, others):
         """Other threads work instead of one."""
         at = self.working.index(thread)
         self.working[at:at + 1] = others

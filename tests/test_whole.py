@@ -119,6 +119,48 @@ class MiddleTest(unittest.TestCase):
             self.assertEqual(run_machine(program, (), ("first", 1), schedule, 5000), ((), "done", 1))
 
 
+class LimitTest(unittest.TestCase):
+    """Point 0.5: texts nested 40 deep, functions of 200 locals and 200 blocks."""
+
+    def check(self, wanted, text, inputs=()):
+        program = compile_text(text)
+        self.assertEqual(repr(meaning(program, inputs, 9999)), repr(wanted))
+        for schedule in schedules_for(program):
+            self.assertEqual(repr(run_text(text, inputs, ("best", 2), schedule, 9999)), repr(wanted))
+
+    def test_statements_within_statements(self):
+        many = 38
+        for ahead, behind, shown in (
+            ("if true { ", " }", (1,)), ("par { ", " } { }", None), ("par { } { ", " }", None),
+            ("if a == 1 { } else { ", " }", (1,)),
+        ):
+            statement = "show 1;" if shown else "a = a + 1;"
+            body = ahead * many + statement + behind * many
+            self.check((shown or (), "done", 0 if shown else 1),
+                       "fn main() -> int { let a: int = 0; " + body + " return a; }")
+        body = "while a < 1 { " * many + "a = a + 1;" + " }" * many
+        self.check(((), "done", 1), "fn main() -> int { let a: int = 0; " + body + " return a; }")
+
+    def test_expressions_within_expressions(self):
+        many = 38
+        self.check(((), "done", 9), "fn main() -> int { return " + "unbox box " * 19 + "9; }")
+        self.check(((), "done", 1 + many), "fn main() -> int { return " + "(1 + " * many + "1" + ")" * many + "; }")
+        self.check(((), "done", True), "fn main() -> bool { return " + "!" * many + "true; }")
+
+    def test_many_locals_and_blocks(self):
+        kinds = (INT,) + (("box", INT),) * 198 + (INT,)
+        fill = [put(1, ("box", ONE, INT))] + [put(at + 1, ("use", ("move", at))) for at in range(1, 198)]
+        program = main_of(kinds, (tuple(fill) + (put(199, ("unbox", 198)), put(0, ("use", copied(199)))), RETURN))
+        self.assertTrue(is_mir(program))
+        self.assertTrue(taken(program))
+        self.assertEqual(run_machine(program, (), ("first", 1), (), 9999), ((), "done", 1))
+        blocks = [((("show", ("num", at)),), ("go", at + 1)) for at in range(199)]
+        program = main_of((INT,), *blocks, ((put(0, ("use", ZERO)),), RETURN))
+        self.assertTrue(is_mir(program))
+        self.assertTrue(taken(program))
+        self.assertEqual(run_machine(program, (), ("first", 1), (), 9999), (tuple(range(199)), "done", 0))
+
+
 class ChangedTest(unittest.TestCase):
     """Programs that come of whole ones by small changes, most of which the judge refuses."""
 
