@@ -102,7 +102,7 @@ class Body:
 
     def first_point(self):
         """What is known at the beginning of block 0."""
-        there = bits_of(range(1, self.params + 1))
+        there = bits_of(list(range(1, self.params + 1)))
         held = [0 for _ in self.kinds]
         for number in range(len(self.loans)):
             block, local = self.loans[number]

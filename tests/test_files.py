@@ -32,6 +32,10 @@ INTERFACE = {
     "threads": ("unordered", "picked"),
     "run": ("compile_text", "run_text", "explained"),
 }
+# What is iterated on the spot, and what may do so beside a for and a comprehension (rule L23).
+PASSING = ("range", "zip", "enumerate", "reversed")
+VIEWS = ("items", "keys", "values")
+ITERATING = ("list", "tuple", "dict", "sorted", "sum", "any", "all", "enumerate", "zip", "min", "max")
 # The methods that it lists for a class.
 METHODS = {("heap", "Heap"): ("__init__", "take", "give", "blocks", "pieces", "top", "size")}
 
@@ -44,6 +48,32 @@ def texts():
             with open(os.path.join(FOLDER, name), encoding="utf-8") as file:
                 found.append((name, file.read()))
     return found
+
+
+def is_passing(node):
+    """True if a node of a tree makes what is iterated on the spot."""
+    if not isinstance(node, ast.Call):
+        return False
+    if isinstance(node.func, ast.Attribute):
+        return node.func.attr in VIEWS
+    return isinstance(node.func, ast.Name) and node.func.id in PASSING
+
+
+def iterated_by(node):
+    """What a node of a tree iterates itself, if it is one that does so."""
+    if isinstance(node, (ast.For, ast.comprehension)):
+        return [node.iter]
+    if isinstance(node, ast.Call) and isinstance(node.func, ast.Name):
+        if node.func.id in ITERATING:
+            return node.args[:1]
+    return []
+
+
+def kept_in(text):
+    """What is not iterated on the spot in the text of a file, though it must be."""
+    nodes = list(ast.walk(ast.parse(text)))
+    iterated = [within for node in nodes for within in iterated_by(node)]
+    return [ast.unparse(node) for node in nodes if is_passing(node) and node not in iterated]
 
 
 class FileTest(unittest.TestCase):
@@ -71,6 +101,14 @@ class FileTest(unittest.TestCase):
                 if isinstance(node, ast.ImportFrom):
                     self.assertEqual(node.level, 0, name)
                     self.assertTrue(node.module.startswith("oneowner."), (name, node.module))
+
+    def test_ranges_and_their_like_are_iterated_on_the_spot(self):
+        for text in ("f(range(3))", "xs = zip(a, b)", "g.f(d.items())", "list(f(reversed(xs)))", "zip(a, range(3))"):
+            self.assertNotEqual(kept_in(text), [], text)
+        for text in ("f(list(range(3)))", "[x for x in zip(a, b)]", "for k in d.items(): f(k)", "min(d.values())"):
+            self.assertEqual(kept_in(text), [], text)
+        for name, text in texts():
+            self.assertEqual(kept_in(text), [], name)
 
     def test_the_interface_is_defined_in_its_files(self):
         bodies = {name[:-3]: ast.parse(text).body for name, text in texts()}
