@@ -167,6 +167,12 @@ class Body:
         return found
 
 
+def bodies_of(program):
+    """The body of each function of a program."""
+    functions = program[1]
+    return [Body(functions, at) for at in range(len(functions))]
+
+
 def effects_of(block, kinds):
     """What each statement of a block does, and what its way does, the last one."""
     statements, way = block

@@ -1,10 +1,10 @@
 """The judge of programs of the middle form."""
 
-from oneowner.bodies import Body
-from oneowner.effects import bits_of, is_through, numbers_of, targets_by
+from oneowner.bodies import bodies_of
+from oneowner.effects import is_through, numbers_of, targets_by
 from oneowner.errors import Refused
 from oneowner.kinds import is_copied
-from oneowner.papers import best_paper, holds, point_of_page
+from oneowner.papers import best_lives, best_points, lives_of_pages, points_of_pages, wrong_page
 from oneowner.sides import are_apart, may_show, shows_in_side
 
 FORM_INDEX = -1
@@ -12,16 +12,17 @@ FORM_INDEX = -1
 
 class Judge:
     """
-    Looks at a function with a paper that holds for it.
+    Looks at a function with what a paper that holds for it tells.
 
-    showing tells of each function whether it may show.
+    points has what is known at the beginning of each block, lives the references that are live
+    there, and showing tells of each function whether it may show.
     """
 
-    def __init__(self, body, paper, showing):
+    def __init__(self, body, points, lives, showing):
         self.facts = body
+        self.points = points
+        self.lives = lives
         self.showing = showing
-        self.points = [point_of_page(body, page) for page in paper]
-        self.lives = [bits_of(page[3]) for page in paper]
 
     def first_wrong(self):
         """The triple (block, index, word) of the first statement that is refused, or None."""
@@ -130,13 +131,26 @@ class Judge:
 
 def judge(program, paper):
     """Raises Refused for the first statement or way that the judge does not take with a paper."""
-    wrong = holds(program, paper)
+    bodies = bodies_of(program)
+    wrong = wrong_page(bodies, paper)
     if wrong is not None:
         raise Refused(wrong[0], wrong[1], FORM_INDEX, "paper")
-    bodies = [Body(program[1], at) for at in range(len(program[1]))]
+    points = [points_of_pages(body, pages) for body, pages in zip(bodies, paper)]
+    refuse_first_wrong(bodies, points, [lives_of_pages(pages) for pages in paper])
+
+
+def judge_with_best(program):
+    """Raises Refused just as judge does with the best paper."""
+    # The best paper holds, so it is neither written out nor looked through.
+    bodies = bodies_of(program)
+    refuse_first_wrong(bodies, [best_points(body) for body in bodies], [best_lives(body) for body in bodies])
+
+
+def refuse_first_wrong(bodies, points, lives):
+    """Raises Refused for the first statement or way that is refused with the points and lives of each function."""
     showing = may_show(bodies)
     for at in range(len(bodies)):
-        found = Judge(bodies[at], paper[at], showing).first_wrong()
+        found = Judge(bodies[at], points[at], lives[at], showing).first_wrong()
         if found is not None:
             raise Refused(at, found[0], found[1], found[2])
 
@@ -144,7 +158,7 @@ def judge(program, paper):
 def taken(program):
     """True if the judge takes a program with its best paper."""
     try:
-        judge(program, best_paper(program))
+        judge_with_best(program)
     except Refused:
         return False
     return True

@@ -1,6 +1,6 @@
 """Papers: what is there, what may be there, what is lent and what is live at the beginning of each block."""
 
-from oneowner.bodies import Body, Point
+from oneowner.bodies import Point, bodies_of
 from oneowner.effects import bits_of, numbers_of
 from oneowner.shapes import is_index, is_row
 
@@ -9,8 +9,7 @@ NOTHING = ((), (), (), ())
 
 def best_paper(program):
     """The best paper: a tuple with one for each function."""
-    functions = program[1]
-    return tuple([best_of_function(Body(functions, at)) for at in range(len(functions))])
+    return tuple([best_of_function(body) for body in bodies_of(program)])
 
 
 def best_of_function(body):
@@ -65,11 +64,15 @@ def page_of(body, point, live):
 
 def holds(program, paper):
     """None if the paper has the form and holds, otherwise the first function and block for which it does not."""
-    functions = program[1]
-    if not is_row(paper, len(functions), len(functions)):
+    return wrong_page(bodies_of(program), paper)
+
+
+def wrong_page(bodies, paper):
+    """None if a paper has the form and holds for bodies, otherwise the first function and block as for holds."""
+    if not is_row(paper, len(bodies), len(bodies)):
         return (0, 0)
-    for at in range(len(functions)):
-        block = wrong_block(Body(functions, at), paper[at])
+    for at in range(len(bodies)):
+        block = wrong_block(bodies[at], paper[at])
         if block is not None:
             return (at, block)
     return None
@@ -79,8 +82,8 @@ def wrong_block(body, thing):
     """The first block for which a thing is not the paper of a function, 0 if it has not the form; or None."""
     if not is_paper(body, thing):
         return 0
-    points = [point_of_page(body, page) for page in thing]
-    lives = [bits_of(page[3]) for page in thing]
+    points = points_of_pages(body, thing)
+    lives = lives_of_pages(thing)
     arriving = points_arriving(body, points)
     for block in body.flow.reached_blocks():
         for point in arriving[block]:
@@ -100,6 +103,16 @@ def points_arriving(body, points):
         for after in body.flow.nexts[block]:
             found[after].append(behind)
     return found
+
+
+def points_of_pages(body, pages):
+    """What the paper of a function tells that is known at the beginning of each block."""
+    return [point_of_page(body, page) for page in pages]
+
+
+def lives_of_pages(pages):
+    """The references of which the paper of a function tells that they are live at the beginning of each block."""
+    return [bits_of(page[3]) for page in pages]
 
 
 def point_of_page(body, page):

@@ -1,17 +1,16 @@
 """Texts are compiled and run."""
 
 from oneowner.errors import ProgramError, Refused, TextError
-from oneowner.judge import judge
+from oneowner.judge import judge_with_best
 from oneowner.lower import lower
 from oneowner.machine import run_machine
-from oneowner.papers import best_paper
 from oneowner.typed import typed
 
 
 def compile_text(text):
     """The program of the middle form of a text, which the judge takes."""
     program = lower(typed(text))
-    judge(program, best_paper(program))
+    judge_with_best(program)
     return program
 
 

@@ -8,10 +8,9 @@ KEYWORDS = (
     "bool", "from",
 )
 
-# The longer signs come first, so that of two that fit the longer one is taken.
-SIGNS = (
-    "==", "->", "{", "}", "(", ")", "[", "]", ",", ";", ":", ".", "=", "+", "-", "*", "<", "!",
-)
+# Of two signs that fit the longer one is taken, so these are asked for first.
+LONG_SIGNS = ("==", "->")
+SHORT_SIGNS = "{}()[],;:.=+-*<!"
 
 LETTERS = "abcdefghijklmnopqrstuvwxyzABCDEFGHIJKLMNOPQRSTUVWXYZ"
 DIGITS = "0123456789"
@@ -63,9 +62,10 @@ def token_at(text, at, row, column):
         if not is_number(word):
             raise BadNumber(row, column)
         return ("number", word, row, column)
-    for sign in SIGNS:
-        if text.startswith(sign, at):
-            return ("sign", sign, row, column)
+    if text[at:at + 2] in LONG_SIGNS:
+        return ("sign", text[at:at + 2], row, column)
+    if text[at] in SHORT_SIGNS:
+        return ("sign", text[at], row, column)
     raise BadCharacter(row, column)
 
 

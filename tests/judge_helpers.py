@@ -1,7 +1,7 @@
 """What tests of papers and of the judge need."""
 
 from oneowner.errors import Refused
-from oneowner.judge import judge, taken
+from oneowner.judge import judge, judge_with_best, taken
 from oneowner.lower import lower
 from oneowner.mir import is_mir
 from oneowner.papers import best_paper, holds
@@ -16,14 +16,20 @@ def refusal(program):
     best = best_paper(program)
     assert holds(program, best) is None
     found = refusal_with(program, best)
+    assert refusal_by(judge_with_best, program) == found
     assert taken(program) is (found is None)
     return found
 
 
 def refusal_with(program, paper):
     """What the judge says of a program with a paper."""
+    return refusal_by(judge, program, paper)
+
+
+def refusal_by(judging, *arguments):
+    """What judging with these arguments says: None, or (function, block, index, word)."""
     try:
-        found = judge(program, paper)
+        found = judging(*arguments)
     except Refused as error:
         return (error.function, error.block, error.index, error.word)
     assert found is None

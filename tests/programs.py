@@ -217,6 +217,45 @@ fn main(n: int, at: int) -> int {
 }
 """
 
+MANY = """
+record P { a: int, b: box int }
+variant L { Nil, Cons(int, box L) }
+fn inc(m: mut int, n: int) -> int { *m = *m + n; return *m * 3; }
+fn suml(l: ref L) -> int {
+  let s: int = 0;
+  match ref *l { Nil { } Cons(h, t) { s = *h + suml(ref **t); } }
+  return s;
+}
+fn pick(p: ref P, q: ref P, c: int) -> ref int from p, q {
+  let r: ref int = ref (*p).a;
+  if c < 3 { r = ref *(*q).b; }
+  return r;
+}
+fn inner(p: mut P) -> mut int from p { return mut *(*p).b; }
+fn grow(v: mut vec int, n: int) -> int { push(*v, n); return len(*v); }
+fn keep(p: P, c: bool) -> box int { open p as (x, y); if c { *y = *y + x; } return y; }
+fn told(n: int) -> int { show n; return n; }
+fn main(x0: int, x1: int) -> int {
+  let w0: int = 0;
+  while w0 < 2 {
+    w0 = w0 + 1;
+    let l0: L = Cons(2, box Cons(x0, box Nil));
+    show suml(ref l0);
+    match mut l0 { Nil { } Cons(h0, t0) { *h0 = 7; } }
+    let l1: L = Cons(2, box Cons(x0, box Nil));
+    show suml(ref l1);
+    match mut l1 { Nil { } Cons(h1, t1) { *h1 = 7; } }
+    let p: P = P(x1, box 3);
+    inc(inner(mut p), x0);
+    let r: ref int = pick(ref p, ref p, w0 + 1);
+    show *r;
+    let v: vec int = vec int;
+    show told(grow(mut v, unbox keep(p, w0 < 2)));
+  }
+  return x0;
+}
+"""
+
 # Each with the values of main's params, and the triple of what is shown, the word and the result.
 RUNS = (
     (BANK, (3,), ((215, False, 5), "done", 10015)), (BANK, (5,), ((215, False, 40), "done", 10015)),
@@ -227,4 +266,6 @@ RUNS = (
     (LENT, (5, 4, True), ((1, 2), "done", 5)), (LENT, (1, 9, False), ((1, 3), "done", 3)),
     (QUEUE, (3, 1), ((False, False), "done", 442)), (QUEUE, (0, 0), ((), "done", 22)),
     (QUEUE, (6, 9), ((False, False, True, True, True, True), "done", 82)), (QUEUE, (200, 150), ((), "steps", None)),
+    (MANY, (5, 80), ((7, 7, 8, 1, 1, 7, 7, 80, 1, 1), "done", 5)),
+    (MANY, (0, 4), ((2, 2, 3, 1, 1, 2, 2, 4, 1, 1), "done", 0)),
 )

@@ -1,8 +1,12 @@
 """Part 9: texts are compiled and run, and what is told of those that have an error."""
 
 import unittest
+from unittest.mock import patch
 
+import programs
+from judge_helpers import refusal_of_text
 from machine_helpers import ALLOCATORS, SCHEDULES
+from oneowner.bodies import Body
 from oneowner.errors import (
     BadCharacter, BadNumber, DoubleName, Endless, NotWhole, ProgramError, Refused, TextError, Unexpected, UnknownName,
     WrongCount, WrongKind,
@@ -93,6 +97,25 @@ class CompileTest(unittest.TestCase):
                 self.assertEqual(found, (kind.__name__, fields))
                 self.assertIsInstance(found, tuple)
                 self.assertIsInstance(found[1], tuple)
+
+    def test_it_is_the_best_paper_with_which_the_judge_is_asked(self):
+        for text in GOOD:
+            self.assertIsNone(refusal_of_text(text))
+        for text, kind, fields in WRONG:
+            if kind is Refused:
+                self.assertEqual(refusal_of_text(text), fields, text)
+
+    def test_the_body_of_each_function_is_made_once(self):
+        made = []
+        begin = Body.__init__
+
+        def counted(body, functions, at):
+            made.append(at)
+            begin(body, functions, at)
+
+        with patch.object(Body, "__init__", counted):
+            program = compile_text(programs.MANY)
+        self.assertEqual(made, list(range(len(program[1]))))
 
     def test_the_errors_of_the_parts_in_order(self):
         for text, name in BOTH:

@@ -7,7 +7,7 @@ import programs
 from helpers import BOOL, INT, LIST, PAIR
 from machine_helpers import ALLOCATORS, SCHEDULES, SOME, WRONG, schedules_for
 from mir_helpers import DEREF, JOIN, RETURN, TRUE, ZERO, copied, field, item, main_of, put, whole
-from judge_helpers import refusal_with
+from judge_helpers import refusal, refusal_with
 from oneowner.judge import taken
 from oneowner.lower import lower
 from oneowner.machine import run_machine
@@ -195,7 +195,7 @@ class ChangedTest(unittest.TestCase):
         allocator = numbers.choice(ALLOCATORS)
         schedule = tuple(numbers.randrange(4) for _ in range(numbers.choice((0, 20, 400))))
         outs, word, result = run_machine(program, inputs, allocator, schedule, 3000)
-        if taken(program):
+        if refusal(program) is None:
             self.assertNotIn(word, WRONG)
             self.assertNotEqual(wanted[1], "stuck")
             if word != "steps":
